@@ -11,10 +11,12 @@ const ErrTaken = 7
 const ErrBusy = 8
 const ErrOld = 9
 const ErrState = 10
-const KindOpen = 1
-const KindUpdate = 2
-const KindNotify = 3
-const KindKeep = 4
+const (
+	KindOpen = iota + 1
+	KindUpdate
+	KindNotify
+	KindKeep
+)
 const MaxBody = 120
 const MaxInput = 400
 
