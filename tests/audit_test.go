@@ -1496,7 +1496,7 @@ func smallMoves(p impl.Pair) []pairMove {
 	return list
 }
 
-// TestAllThatFewCallsDo goes from a new pair, and from one that has agreed to something, to all pairs that so many calls lead to.
+// TestAllThatFewCallsDo goes from a new pair, and from one that has agreed to something, to the first 4000 pairs that calls lead to, those of fewer calls first.
 func TestAllThatFewCallsDo(t *testing.T) {
 	var c wentOn
 	agreed := afterMoves(t, newPair(), pairLead(0), pairEvent(0, start(0)), pairSpread(0), pairDeliver(0, false), pairLose(0), pairSync(1), pairSync(0), pairDeliver(0, true), pairGive(0, 0), pairEvent(0, tick()), pairSpread(0), pairLead(1))
